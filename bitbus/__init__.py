@@ -1,0 +1,1 @@
+"""Bitbus: frames on one wire, heard by all alike, each just once."""
