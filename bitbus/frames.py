@@ -98,7 +98,7 @@ def plain_choices(plain):
 
 # Each choice leads on to some frame: the bits that frames have behind those of wire are just
 # these, and there is none where the frame is over. In plain are the bits of wire not put in.
-def choices(wire, plain):
+def choices_behind(wire, plain):
     if is_one_due(wire):
         return (1 - wire[-1],)
     return plain_choices(plain)
@@ -110,15 +110,34 @@ def parts_of(plain):
     return (name, row)
 
 
+class Reading:
+    def __init__(self):
+        self.wire = []
+        self.plain = []
+        self.choices = choices_behind([], [])
+
+    def take(self, bit):
+        if not is_one_due(self.wire):
+            self.plain.append(bit)
+        self.wire.append(bit)
+        self.choices = choices_behind(self.wire, self.plain)
+
+    def is_over(self):
+        return self.choices == ()
+
+    # Whether the next bit is one of the name, and not one that is put in between those.
+    def is_at_name(self):
+        if is_one_due(self.wire):
+            return False
+        return len(self.plain) >= NAME_AT and len(self.plain) < COUNT_AT
+
+
 def frame_of(bits):
-    wire = []
-    plain = []
+    reading = Reading()
     for bit in bits:
-        if bit not in choices(wire, plain):
-            raise BadBits(len(wire))
-        if not is_one_due(wire):
-            plain.append(bit)
-        wire.append(bit)
-    if choices(wire, plain) != ():
-        raise BadBits(len(wire))
-    return parts_of(plain)
+        if bit not in reading.choices:
+            raise BadBits(len(reading.wire))
+        reading.take(bit)
+    if not reading.is_over():
+        raise BadBits(len(reading.wire))
+    return parts_of(reading.plain)

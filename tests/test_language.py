@@ -99,6 +99,36 @@ class Language(unittest.TestCase):
             if isinstance(node.func, ast.Attribute):
                 self.assertIn(node.func.attr, METHODS | own, where)
 
+    def test_methods_and_values(self):
+        methods = {node.name for where, owner in self.nodes(ast.ClassDef) for node in owner.body
+                   if isinstance(node, ast.FunctionDef)}
+        stored = [(where, node.attr) for where, node in self.nodes(ast.Attribute) if isinstance(node.ctx, ast.Store)]
+        python = set().union(*(dir(kind) for kind in (str, int, list, dict, set, bytes, tuple)))
+        for where, name in stored:
+            self.assertNotIn(name, methods, where)
+            self.assertNotIn(name, python, where)
+        for name in methods - {"__init__"}:
+            self.assertNotIn(name, python)
+
+    def test_each_name_once(self):
+        for name, tree in self.trees.items():
+            imports = [alias.name for node in tree.body if isinstance(node, ast.ImportFrom) for alias in node.names]
+            defs = [node for node in tree.body if isinstance(node, (ast.FunctionDef, ast.ClassDef))]
+            values = [node.targets[0].id for node in tree.body if isinstance(node, ast.Assign)]
+            bound = imports + [node.name for node in defs] + values
+            self.assertEqual(len(bound), len(set(bound)), name)
+            local = {node.id for owner in defs for node in ast.walk(owner)
+                     if isinstance(node, ast.Name) and isinstance(node.ctx, ast.Store)}
+            local |= {node.arg for node in ast.walk(tree) if isinstance(node, ast.arg)}
+            self.assertEqual(local & set(bound), set(), name)
+
+    def test_imports_come_from_where_the_name_is_defined(self):
+        for where, node in self.nodes(ast.ImportFrom):
+            tree = self.trees[node.module.split(".")[1] + ".py"]
+            defined = {found.name for found in tree.body if isinstance(found, (ast.FunctionDef, ast.ClassDef))}
+            for alias in node.names:
+                self.assertIn(alias.name, defined, where)
+
 
 if __name__ == "__main__":
     unittest.main()
